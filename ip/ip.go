@@ -6,14 +6,14 @@ import (
 	"strings"
 
 	"herepath/api"
+	"herepath/number"
 )
 
 const (
-	addrBits  = 32
-	partBits  = 8
-	parts     = addrBits / partBits
-	mostPart  = 1<<partBits - 1
-	maxDigits = 9
+	addrBits = 32
+	partBits = 8
+	parts    = addrBits / partBits
+	mostPart = 1<<partBits - 1
 )
 
 // isAddr leans on the sign: of a number below 0 a shift leaves -1, not 0.
@@ -42,21 +42,6 @@ func AddrText(a int) string {
 	return s + strconv.Itoa(a&mostPart)
 }
 
-// readNumber takes decimal digits alone: strconv would also take signs and needless zeros.
-func readNumber(s string) (int, bool) {
-	if s == "" || len(s) > maxDigits || s[0] == '0' && len(s) > 1 {
-		return 0, false
-	}
-	n := 0
-	for i := 0; i < len(s); i++ {
-		if s[i] < '0' || s[i] > '9' {
-			return 0, false
-		}
-		n = n*10 + int(s[i]-'0')
-	}
-	return n, true
-}
-
 // ReadAddr of a text.
 func ReadAddr(s string) (int, error) {
 	// One part more than there may be is enough to tell that there are too many.
@@ -66,7 +51,7 @@ func ReadAddr(s string) (int, error) {
 	}
 	a := 0
 	for _, w := range words {
-		n, ok := readNumber(w)
+		n, ok := number.Read(w)
 		if !ok || n > mostPart {
 			return 0, api.ErrText
 		}
@@ -102,7 +87,7 @@ func Read(s string) (api.Prefix, error) {
 	if err != nil {
 		return api.Prefix{}, err
 	}
-	n, ok := readNumber(length)
+	n, ok := number.Read(length)
 	if !ok {
 		return api.Prefix{}, api.ErrText
 	}
