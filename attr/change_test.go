@@ -222,3 +222,34 @@ func TestSame(t *testing.T) {
 		}
 	}
 }
+
+// A copy stands alone, and so do its two lists; what is not right is copied as it stands.
+func TestCopy(t *testing.T) {
+	l := []api.Attr{{}, {Path: []int{1}, Tags: []int{2}}, {Path: rising(1, 12), Pref: 1000, Med: 5, Origin: 2, Tags: rising(7, 8)}, {Path: times(-1, 13), Pref: -7, Med: 1001, Origin: 9, Tags: []int{5, 4, 0}}}
+	for _, a := range l {
+		a.Path, a.Tags = behind(a.Path), behind(a.Tags)
+		want := whole(a)
+		left, right, stays := attr.Copy(a), attr.Copy(a), attr.Copy(a)
+		for _, c := range []api.Attr{left, right, stays} {
+			if !same(c, a) {
+				t.Errorf("Copy(%v) = %v", a, c)
+			}
+		}
+		scribble(api.Attr{Path: left.Path})
+		scribble(api.Attr{Tags: right.Tags})
+		if fmt.Sprint(left.Tags, right.Path) != fmt.Sprint(a.Tags, a.Path) || whole(a) != want {
+			t.Errorf("what is written into a copy of %v shows", a)
+		}
+		kept := fmt.Sprint(stays)
+		scribble(a)
+		if fmt.Sprint(stays) != kept {
+			t.Errorf("a later change of %v shows in its copy", a)
+		}
+	}
+	shared := rising(1, 4)
+	c := attr.Copy(api.Attr{Path: shared, Tags: shared})
+	scribble(api.Attr{Path: c.Path})
+	if fmt.Sprint(c.Tags) != "[1 2 3 4]" {
+		t.Error("the lists of a copy are one:", c)
+	}
+}

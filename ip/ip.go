@@ -9,26 +9,28 @@ import (
 	"herepath/number"
 )
 
+// AddrBits of an address, and so the most that a Len may be.
+const AddrBits = 32
+
 const (
-	addrBits = 32
 	partBits = 8
-	parts    = addrBits / partBits
+	parts    = AddrBits / partBits
 	mostPart = 1<<partBits - 1
 )
 
 // isAddr leans on the sign: of a number below 0 a shift leaves -1, not 0.
-func isAddr(a int) bool { return a>>addrBits == 0 }
+func isAddr(a int) bool { return a>>AddrBits == 0 }
 
-func isLen(n int) bool { return 0 <= n && n <= addrBits }
+func isLen(n int) bool { return 0 <= n && n <= AddrBits }
 
 // right is asked ahead of every shift by a Len: a shift by less than 0 panics.
 func right(p api.Prefix) bool { return Check(p) == nil }
 
 // restBits are those behind the first n.
-func restBits(n int) int { return 1<<(addrBits-n) - 1 }
+func restBits(n int) int { return 1<<(AddrBits-n) - 1 }
 
 // alike: are the first n bits of two addresses the same?
-func alike(a, b, n int) bool { return (a^b)>>(addrBits-n) == 0 }
+func alike(a, b, n int) bool { return (a^b)>>(AddrBits-n) == 0 }
 
 // AddrText of an address.
 func AddrText(a int) string {
@@ -36,7 +38,7 @@ func AddrText(a int) string {
 		return ""
 	}
 	s := ""
-	for shift := addrBits - partBits; shift > 0; shift -= partBits {
+	for shift := AddrBits - partBits; shift > 0; shift -= partBits {
 		s += strconv.Itoa(a>>shift&mostPart) + "."
 	}
 	return s + strconv.Itoa(a&mostPart)
@@ -132,11 +134,11 @@ func Halves(p api.Prefix) (api.Prefix, api.Prefix, error) {
 	if err := Check(p); err != nil {
 		return api.Prefix{}, api.Prefix{}, err
 	}
-	if p.Len == addrBits {
+	if p.Len == AddrBits {
 		return api.Prefix{}, api.Prefix{}, api.ErrNone
 	}
 	n := p.Len + 1
-	next := 1 << (addrBits - n)
+	next := 1 << (AddrBits - n)
 	return api.Prefix{Addr: p.Addr, Len: n}, api.Prefix{Addr: p.Addr | next, Len: n}, nil
 }
 
@@ -156,5 +158,5 @@ func Size(p api.Prefix) int {
 	if !right(p) {
 		return 0
 	}
-	return 1 << (addrBits - p.Len)
+	return 1 << (AddrBits - p.Len)
 }

@@ -1,4 +1,4 @@
-// Package number reads numbers as the texts of herepath have them.
+// Package number reads numbers as the texts of herepath have them, and holds them to bounds.
 package number
 
 const maxDigits = 9
@@ -17,3 +17,6 @@ func Read(s string) (int, bool) {
 	}
 	return n, true
 }
+
+// Within: is a number from one to another one?
+func Within(n, from, to int) bool { return from <= n && n <= to }

@@ -1,6 +1,7 @@
 package number_test
 
 import (
+	"math"
 	"strconv"
 	"strings"
 	"testing"
@@ -31,5 +32,24 @@ func TestReadWrong(t *testing.T) {
 		if got, ok := number.Read(s); got != 0 || ok {
 			t.Errorf("Read(%.20q) = %d, %v", s, got, ok)
 		}
+	}
+}
+
+func TestWithin(t *testing.T) {
+	for from := -3; from <= 3; from++ {
+		for to := -3; to <= 3; to++ {
+			for n := -5; n <= 5; n++ {
+				want := false
+				for x := from; x <= to; x++ {
+					want = want || x == n
+				}
+				if got := number.Within(n, from, to); got != want {
+					t.Errorf("Within(%d, %d, %d) = %v", n, from, to, got)
+				}
+			}
+		}
+	}
+	if !number.Within(0, math.MinInt, math.MaxInt) || !number.Within(math.MinInt, math.MinInt, 0) || !number.Within(math.MaxInt, 0, math.MaxInt) || number.Within(0, math.MaxInt, math.MinInt) {
+		t.Error("the least and the greatest numbers are no bounds")
 	}
 }
