@@ -2,6 +2,7 @@
 package ip
 
 import (
+	"cmp"
 	"strconv"
 	"strings"
 
@@ -120,13 +121,12 @@ func In(q, p api.Prefix) bool {
 
 // Less: does a prefix come ahead of another one?
 func Less(a, b api.Prefix) bool {
-	if !right(a) || !right(b) {
-		return false
-	}
-	if a.Addr != b.Addr {
-		return a.Addr < b.Addr
-	}
-	return a.Len < b.Len
+	return right(a) && right(b) && Order(a, b) < 0
+}
+
+// Order of two prefixes, right or not, told as package cmp tells it; of right ones it is that of Less.
+func Order(a, b api.Prefix) int {
+	return cmp.Or(cmp.Compare(a.Addr, b.Addr), cmp.Compare(a.Len, b.Len))
 }
 
 // Halves of a prefix.

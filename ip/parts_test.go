@@ -119,6 +119,24 @@ func TestLess(t *testing.T) {
 	}
 }
 
+// Order tells of wrong ones, too, which is ahead, so that whatever is sorted by it comes in one order.
+func TestOrder(t *testing.T) {
+	l := append(rightPrefixes(), wrongPrefixes()...)
+	for _, a := range l {
+		for _, b := range l {
+			want := 0
+			if a.Addr < b.Addr || a.Addr == b.Addr && a.Len < b.Len {
+				want = -1
+			} else if a != b {
+				want = 1
+			}
+			if got := ip.Order(a, b); got != want {
+				t.Errorf("Order(%v, %v) = %d", a, b, got)
+			}
+		}
+	}
+}
+
 func TestHalvesAndUp(t *testing.T) {
 	for _, p := range rightPrefixes() {
 		if p.Len == 32 {

@@ -1,6 +1,8 @@
 // Package number reads numbers as the texts of herepath have them, and holds them to bounds.
 package number
 
+import "herepath/api"
+
 const maxDigits = 9
 
 // Read takes decimal digits alone, at most nine: strconv would also take signs and needless zeros.
@@ -20,3 +22,6 @@ func Read(s string) (int, bool) {
 
 // Within: is a number from one to another one?
 func Within(n, from, to int) bool { return from <= n && n <= to }
+
+// IsSystem: is it a number of a system, and so of a neighbour, or of a host?
+func IsSystem(n int) bool { return Within(n, 1, api.MaxAS) }

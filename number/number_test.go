@@ -53,3 +53,16 @@ func TestWithin(t *testing.T) {
 		t.Error("the least and the greatest numbers are no bounds")
 	}
 }
+
+func TestIsSystem(t *testing.T) {
+	for n := -3; n <= 1003; n++ {
+		if got, want := number.IsSystem(n), n >= 1 && n <= 1000; got != want {
+			t.Errorf("IsSystem(%d) = %v", n, got)
+		}
+	}
+	for _, n := range []int{math.MinInt, -1000, -1 << 32, 1<<32 + 1, 10000, math.MaxInt} {
+		if number.IsSystem(n) {
+			t.Errorf("IsSystem(%d)", n)
+		}
+	}
+}
